@@ -1,0 +1,1 @@
+"""Groups told by their tables, and their characters."""
