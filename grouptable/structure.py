@@ -13,13 +13,29 @@ class Group:
         self.inverses = [row.index(0) for row in products]
         self.prime = least_prime(2 * order, exponent(products))
         self.class_numbers = number_classes(products, self.inverses)
-        self.class_sizes = count_each(self.class_numbers)
+        self.class_members = members_of_each(self.class_numbers)
+        self.class_sizes = [len(members) for members in self.class_members]
+        # They take the longest to work out, so that's done when they are first asked for.
+        self.characters = None
 
     def has_thing(self, thing):
         return 0 <= thing < self.order
 
     def has_class(self, number):
         return 0 <= number < len(self.class_sizes)
+
+    def has_character(self, number):
+        # There are as many characters as classes.
+        return self.has_class(number)
+
+    def opposite(self, number):
+        """The class of the inverses of what's in a class."""
+        return self.class_numbers[self.inverses[self.class_members[number][0]]]
+
+    def commutator(self, first, second):
+        """xyx'y' of an x and a y."""
+        back = self.products[self.inverses[first]][self.inverses[second]]
+        return self.products[self.products[first][second]][back]
 
 
 def exponent(products):
@@ -45,6 +61,9 @@ def number_classes(products, inverses):
     return numbers
 
 
-def count_each(numbers):
-    """How often each number from 0 to the greatest is there."""
-    return [numbers.count(number) for number in range(max(numbers) + 1)]
+def members_of_each(class_numbers):
+    """For each class what's in it, the least first."""
+    members = [[] for number in range(max(class_numbers) + 1)]
+    for thing, number in enumerate(class_numbers):
+        members[number].append(thing)
+    return members

@@ -3,16 +3,9 @@
 import unittest
 
 from grouptable.group import answers
-from tests.tables import (CLASSES, GREATEST, LEAST, all_groups, call_class, call_size, call_table, cyclic, line,
-                          quaternions, renamed, side, singles, symmetric)
-
-
-def classes_by_their_words(t):
-    """The classes, by their least things."""
-    k = side(t)
-    inverse = {a: b for a in range(k) for b in range(k) if t[a * k + b] == 0}
-    found = {tuple(sorted({t[t[x * k + a] * k + inverse[x]] for x in range(k)})) for a in range(k)}
-    return sorted(found)
+from tests.tables import (CLASSES, GREATEST, LEAST, all_groups, call_class, call_size, call_table,
+                          class_numbers_by_their_words, classes_by_their_words, cyclic, line, quaternions, renamed,
+                          side, singles, symmetric)
 
 
 def about_classes(t):
@@ -50,9 +43,8 @@ class Classes(unittest.TestCase):
     def test_classes_by_their_words(self):
         for name, t in all_groups().items():
             with self.subTest(name):
-                classes = classes_by_their_words(t)
-                of_things = [next(i for i, c in enumerate(classes) if a in c) for a in range(side(t))]
-                self.check_classes(t, of_things, [len(c) for c in classes])
+                sizes = [len(c) for c in classes_by_their_words(t)]
+                self.check_classes(t, class_numbers_by_their_words(t), sizes)
 
 
 class NoSuchThing(unittest.TestCase):

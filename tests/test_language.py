@@ -128,6 +128,41 @@ class Language(unittest.TestCase):
             if isinstance(node, ast.Compare) and isinstance(node.ops[0], (ast.Is, ast.IsNot)):
                 self.assertIsInstance(node.comparators[0], ast.Constant, (name, row))
 
+    def test_no_local_is_called_like_a_class_or_an_import(self):
+        for path, text in sources().items():
+            tree = ast.parse(text)
+            taken = {node.name for node in tree.body if isinstance(node, ast.ClassDef)}
+            taken.update(part.name for node in tree.body if isinstance(node, ast.ImportFrom) for part in node.names)
+            for node in ast.walk(tree):
+                if isinstance(node, ast.arg):
+                    self.assertNotIn(node.arg, taken, path)
+                if isinstance(node, ast.Name) and isinstance(node.ctx, ast.Store):
+                    self.assertNotIn(node.id, taken, path)
+
+    def test_no_name_is_a_method_and_a_value(self):
+        methods, values = set(), set()
+        for name, row, node in all_nodes():
+            if isinstance(node, ast.ClassDef):
+                methods.update(part.name for part in node.body if isinstance(part, ast.FunctionDef))
+            if isinstance(node, ast.Attribute) and isinstance(node.ctx, ast.Store):
+                values.add(node.attr)
+        self.assertFalse(methods & values)
+        self.assertFalse((methods | values) & OWN_METHODS)
+
+    def test_files_draw_from_one_another_one_way(self):
+        draws = {}
+        for path, text in sources().items():
+            draws[path.stem] = {node.module.split(".")[1] for node in ast.parse(text).body
+                                if isinstance(node, ast.ImportFrom)}
+        while draws:
+            free = [name for name, others in draws.items() if not others & set(draws)]
+            self.assertTrue(free, draws)
+            draws = {name: others for name, others in draws.items() if name not in free}
+
+    def test_powers_are_not_reckoned_by_python(self):
+        for name, row, node in all_nodes():
+            self.assertNotIsInstance(node, ast.Pow, (name, row))
+
 
 if __name__ == "__main__":
     unittest.main()

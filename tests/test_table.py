@@ -5,7 +5,7 @@ from itertools import product
 
 from grouptable.group import answers
 from tests.tables import (BEGIN, CLASSES, ORDER, PRIME, all_groups, call_class, call_size, call_table, cyclic,
-                          doubled_away, line, renamed, side, singles, symmetric)
+                          doubled_away, line, prime_by_its_words, renamed, side, singles, symmetric)
 
 ABOUT_THE_GROUP = ORDER + PRIME + CLASSES + call_class(1) + call_class(4) + call_size(0) + call_size(1)
 ABOUT_LONE = [1, 3, 1, -1, -1, 1, -1]
@@ -60,22 +60,6 @@ def taken(tables):
         told = answers(line(*[call_table(t) for t in batch]))[3::2]
         some.extend(t for t, answer in zip(batch, told) if answer != -1)
     return some
-
-
-def powers(t, a):
-    """a to the powers 1, 2 and so on, up to 0."""
-    k = side(t)
-    found = [a]
-    while found[-1] != 0:
-        found.append(t[found[-1] * k + a])
-    return found
-
-
-def prime_by_its_words(t):
-    k = side(t)
-    exponent = next(m for m in range(1, 1000) if all(m % len(powers(t, a)) == 0 for a in range(k)))
-    return next(p for p in range(2 * k + 1, 100000)
-                if p % exponent == 1 % exponent and all(p % d for d in range(2, p)))
 
 
 class Begin(unittest.TestCase):
